@@ -1,0 +1,1 @@
+"""Keys to pipes: which pipes of an organ speak."""
