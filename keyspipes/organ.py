@@ -1,7 +1,8 @@
-"""Which pipes speak while keys, stops and couplers of an organ are held."""
+"""Which pipes speak while keys, stops and couplers of an organ are held, and why."""
 
 NO_PLAN = -22
 NOT_THERE = -71
+SILENT = -2
 
 DIVISIONS_MOST = 4
 RANKS_MOST = 16
@@ -17,6 +18,9 @@ COUPLER_SHIFTS = (-12, 0, 12)
 NUMBERS_OF_A_STOP = 5
 NUMBERS_OF_A_COUPLER = 3
 PIPES_IN_FIRST_NUMBER = 64
+
+HELD_THERE_ITSELF = 255
+NONE_FOUND = -1
 
 
 class Stop:
@@ -201,3 +205,67 @@ def pipes(divisions, stops_held, couplers_held, off, rank_pipes, stops, couplers
     stops_on = held_ones(read_stops(stops), stops_held)
     sounding = sounding_keys(divisions, off, couplers_on, keys)
     return told_pipes(speaking_pipes(rank_pipes, stops_on, sounding))
+
+
+def has_pipe(rank_pipes, rank, pipe):
+    return rank < len(rank_pipes) and pipe < rank_pipes[rank]
+
+
+def key_to_pipe(stop, pipe):
+    """The one key that can lead to a pipe by a stop; it may be none of the stop's keys."""
+    return pipe - stop.shift
+
+
+def speaks_by(stop, rank, pipe, sounding):
+    """Whether a stop makes a rank's pipe speak, by the keys that sound on the stop's division."""
+    key = key_to_pipe(stop, pipe)
+    return stop.rank == rank and stop.low <= key <= stop.high and has(sounding, key)
+
+
+def sounds_by(coupler, division, key, keys):
+    """Whether a coupler makes a key sound on a division, by the keys that are held."""
+    start = key - coupler.shift
+    return coupler.target == division and 0 <= start < KEYS and has(keys[coupler.source], start)
+
+
+def least_stop(stops, stops_held, rank, pipe, sounding):
+    """The number of the first stop that's held and makes the pipe speak, or NONE_FOUND."""
+    for number, stop in enumerate(stops):
+        if has(stops_held, number) and speaks_by(stop, rank, pipe, sounding[stop.division]):
+            return number
+    return NONE_FOUND
+
+
+def least_coupler(couplers, couplers_held, division, key, keys):
+    """The number of the first coupler that's held and makes the key sound, or NONE_FOUND."""
+    for number, coupler in enumerate(couplers):
+        if has(couplers_held, number) and sounds_by(coupler, division, key, keys):
+            return number
+    return NONE_FOUND
+
+
+def cause_of_key(division, key, couplers_held, off, couplers, keys):
+    """Of a key that sounds: 255 or the coupler by which it does, and the key that's held."""
+    if has(keys[division], key) and not has(off, division):
+        return [HELD_THERE_ITSELF, key]
+    # One is found: a key that sounds and isn't held there itself is coupled.
+    number = least_coupler(couplers, couplers_held, division, key, keys)
+    return [number, key - couplers[number].shift]
+
+
+def why(divisions, stops_held, couplers_held, off, rank, pipe, rank_pipes, stops, couplers, keys):
+    """0, and by which stop, key, coupler and held key a pipe speaks; or a refusal alone."""
+    refusal = refusal_due(divisions, stops_held, couplers_held, off, rank_pipes, stops, couplers, keys)
+    if refusal != 0:
+        return [refusal]
+    if not has_pipe(rank_pipes, rank, pipe):
+        return [SILENT]
+    all_stops = read_stops(stops)
+    all_couplers = read_couplers(couplers)
+    sounding = sounding_keys(divisions, off, held_ones(all_couplers, couplers_held), keys)
+    number = least_stop(all_stops, stops_held, rank, pipe, sounding)
+    if number == NONE_FOUND:
+        return [SILENT]
+    stop = all_stops[number]
+    key = key_to_pipe(stop, pipe)
+    return [0, number, key] + cause_of_key(stop.division, key, couplers_held, off, all_couplers, keys)

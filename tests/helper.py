@@ -1,6 +1,6 @@
 """What the tests share: a small organ to change, answers to expect, a slow reading of the words."""
 
-from keyspipes.organ import pipes
+from keyspipes.organ import pipes, why
 
 ALL_KEYS = 2 ** 61 - 1
 MOST_SET = 2 ** 64 - 1
@@ -40,6 +40,10 @@ def two_divisions(**changes):
 
 def ask(organ):
     return pipes(**organ)
+
+
+def ask_why(organ, rank, pipe):
+    return why(rank=rank, pipe=pipe, **organ)
 
 
 def pipes_answer(speaking):
@@ -82,6 +86,39 @@ def answer_by_words(organ):
     return pipes_answer(speaking)
 
 
+def ways_by_words(organ, rank, pipe):
+    """Every way by which a pipe speaks, as why tells one: stop, key, 255 or coupler, key that's held."""
+    ways = []
+    for stop, (division, stop_rank, low, high, shift) in enumerate(groups(organ["stops"], 5)):
+        for key in range(low, high + 1):
+            leads = stop_rank == rank and key + shift == pipe and pipe < organ["rank_pipes"][rank]
+            if leads and is_held(organ["stops_held"], stop):
+                ways += [(stop, key) + cause for cause in causes_by_words(organ, division, key)]
+    return ways
+
+
+def causes_by_words(organ, division, key):
+    """Every cause by which a key sounds on a division: 255 or a coupler, and the key that's held."""
+    causes = []
+    if is_held(organ["keys"][division], key) and not is_held(organ["off"], division):
+        causes.append((255, key))
+    for number, (source, target, shift) in enumerate(groups(organ["couplers"], 3)):
+        for start in range(61):
+            if is_held(organ["couplers_held"], number) and target == division and start + shift == key:
+                if is_held(organ["keys"][source], start):
+                    causes.append((number, start))
+    return causes
+
+
+def why_by_words(organ, rank, pipe):
+    """What why is to answer for a plan and what's held without fault."""
+    ways = ways_by_words(organ, rank, pipe)
+    if not ways:
+        return [-2]
+    # 255 goes ahead of any coupler, so it's set below them all.
+    return [0] + list(min(ways, key=lambda way: (way[0], way[1], -1 if way[2] == 255 else way[2])))
+
+
 def made_stop(chance, divisions, ranks):
     low = chance.randint(0, 60)
     shift = chance.choice([-60, -24, -12, 0, 0, 12, 36, 96, chance.randint(-60, 96)])
@@ -111,3 +148,21 @@ def made_organ(chance):
         "couplers": sum([made_coupler(chance, divisions) for c in range(coupler_count)], []),
         "keys": keys + [0] * (4 - divisions),
     }
+
+
+def made_crowded_organ(chance):
+    """A faultless organ of few ranks and octave shifts, so that many pipes speak in several ways."""
+    organ = made_organ(chance)
+    ranks = chance.randint(1, 2)
+    stops = [[chance.randrange(organ["divisions"]), chance.randrange(ranks), chance.choice([0, 0, 12, 30]),
+              chance.choice([30, 48, 60, 60]), chance.choice([-12, 0, 12, 24, 36])] for s in range(8)]
+    couplers = [made_coupler(chance, organ["divisions"]) for c in range(8)]
+    organ.update(rank_pipes=[chance.choice([61, 73, 97]) for r in range(ranks)], stops=sum(stops, []),
+                 couplers=sum(couplers, []), stops_held=chance.getrandbits(8), couplers_held=chance.getrandbits(8))
+    return organ
+
+
+def each_pipe(organ):
+    """Every rank and pipe, and some past the last ones."""
+    places = [(rank, pipe) for rank, count in enumerate(organ["rank_pipes"]) for pipe in range(count + 2)]
+    return places + [(len(organ["rank_pipes"]), 0), (MOST_SHORT_SET, MOST_SHORT_SET)]

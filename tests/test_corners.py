@@ -1,9 +1,8 @@
-"""pipes at the corners that the document names, and what always holds."""
+"""pipes at the corners that the document names."""
 
-import random
 import unittest
 
-from tests.helper import ALL_KEYS, ask, bits, made_organ, pipes_answer, small_organ, two_divisions
+from tests.helper import ALL_KEYS, ask, bits, pipes_answer, small_organ, two_divisions
 
 
 class Corners(unittest.TestCase):
@@ -102,46 +101,6 @@ class Corners(unittest.TestCase):
         organ = small_organ(divisions=4, rank_pipes=[97] * 16, stops=stops, stops_held=2 ** 64 - 1,
                             couplers=[0, 1, 12] * 32, couplers_held=2 ** 32 - 1, keys=[ALL_KEYS] * 4)
         self.assertEqual(ask(organ), pipes_answer({rank: range(97) for rank in range(16)}))
-
-
-class WhatHolds(unittest.TestCase):
-    def assert_within(self, fewer, more):
-        self.assertEqual([a & ~b for a, b in zip(fewer[1:], more[1:])], [0] * 32)
-        self.assertLessEqual(fewer[0], more[0])
-
-    def test_more_held_no_pipe_less(self):
-        chance = random.Random(3)
-        for number in range(100):
-            organ = made_organ(chance)
-            answer = ask(organ)
-            division = chance.randrange(organ["divisions"])
-            keys = list(organ["keys"])
-            keys[division] |= bits(chance.randrange(61))
-            more = [
-                {"keys": keys},
-                {"stops_held": organ["stops_held"] | bits(chance.randrange(len(organ["stops"]) // 5))},
-            ]
-            if organ["couplers"]:
-                coupler = chance.randrange(len(organ["couplers"]) // 3)
-                more.append({"couplers_held": organ["couplers_held"] | bits(coupler)})
-            for change in more:
-                with self.subTest(organ=organ, change=change):
-                    self.assert_within(answer, ask({**organ, **change}))
-
-    def test_a_division_off_no_pipe_more(self):
-        chance = random.Random(4)
-        for number in range(100):
-            organ = made_organ(chance)
-            off = organ["off"] | bits(chance.randrange(organ["divisions"]))
-            with self.subTest(organ=organ, off=off):
-                self.assert_within(ask({**organ, "off": off}), ask(organ))
-
-    def test_no_stop_held_no_pipe(self):
-        chance = random.Random(5)
-        for number in range(100):
-            organ = made_organ(chance)
-            with self.subTest(organ=organ):
-                self.assertEqual(ask({**organ, "stops_held": 0}), [0] * 33)
 
 
 if __name__ == "__main__":

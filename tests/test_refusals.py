@@ -1,20 +1,30 @@
-"""The refusals of pipes: promise 1, at both ends of each range that a plan has."""
+"""The refusals of both calls: promise 1, at both ends of each range that a plan has."""
 
 import unittest
 
-from tests.helper import ALL_KEYS, MOST_SET, MOST_SHORT_SET, ask, bits, small_organ, two_divisions
+from tests.helper import ALL_KEYS, MOST_SET, MOST_SHORT_SET, ask, ask_why, bits, small_organ, two_divisions
+
+
+# A rank and a pipe that there may be, and some that there can't be, so that -2 is due too.
+PLACES = ((0, 0), (0, 97), (16, 0), (MOST_SHORT_SET, MOST_SHORT_SET))
 
 
 class Refusals(unittest.TestCase):
     def assert_refused(self, refusal, organ):
         with self.subTest(organ=organ):
             self.assertEqual(ask(organ), [refusal])
+            for rank, pipe in PLACES:
+                self.assertEqual(ask_why(organ, rank, pipe), [refusal])
 
     def assert_taken(self, organ):
         with self.subTest(organ=organ):
             answer = ask(organ)
             self.assertEqual(len(answer), 33)
             self.assertGreaterEqual(answer[0], 0)
+            speaks = answer[1] % 2 == 1
+            self.assertEqual(ask_why(organ, 0, 0)[0], 0 if speaks else -2)
+            for rank, pipe in PLACES[1:]:
+                self.assertEqual(ask_why(organ, rank, pipe), [-2])
 
 
 class NoPlan(Refusals):
@@ -172,7 +182,7 @@ class NotThere(Refusals):
                 self.assert_taken(small_organ(divisions=divisions, off=off))
 
 
-class BothAtOnce(Refusals):
+class SeveralAtOnce(Refusals):
     def test_the_one_told_first(self):
         no_plan = ({"divisions": 0}, {"divisions": 5}, {"rank_pipes": []}, {"rank_pipes": [98]}, {"stops": []},
                    {"stops": [0, 0, 0, 61, 0]}, {"couplers": [0, 0, 0]}, {"couplers": [0, 0, 12] * 33})
@@ -181,6 +191,17 @@ class BothAtOnce(Refusals):
         for plan in no_plan:
             for held in not_there:
                 self.assert_refused(-22, small_organ(**plan, **held))
+
+    def test_ahead_of_a_pipe_that_speaks_by_all_else(self):
+        organ = small_organ(couplers=[0, 0, 12], couplers_held=1, keys=[bits(20), 0, 0, 0])
+        self.assertEqual(ask_why(organ, 0, 20), [0, 0, 20, 255, 20])
+        self.assertEqual(ask_why(organ, 0, 32), [0, 0, 32, 0, 20])
+        for refusal, change in ((-22, {"rank_pipes": [97, 0]}), (-22, {"couplers": [0, 0, 12, 0, 0, 0]}),
+                                (-71, {"keys": [bits(20, 61), 0, 0, 0]}), (-71, {"keys": [bits(20), 1, 0, 0]}),
+                                (-71, {"stops_held": 3}), (-71, {"couplers_held": 3}), (-71, {"off": 2})):
+            for pipe in (20, 32):
+                with self.subTest(change=change, pipe=pipe):
+                    self.assertEqual(ask_why({**organ, **change}, 0, pipe), [refusal])
 
     def test_all_that_is_held_is_not_there(self):
         organ = small_organ(keys=[MOST_SET] * 4, stops_held=MOST_SET, couplers_held=MOST_SHORT_SET, off=MOST_SHORT_SET)
